@@ -1,0 +1,1 @@
+"""Fewbuses: the trips of a day, done by as few buses as can be."""

@@ -1,0 +1,28 @@
+"""The interface: each name stands in its file, and arguments go by their places."""
+
+import inspect
+import unittest
+
+from fewbuses import roads as roads_file
+
+FUNCTIONS = [
+    (roads_file, "roads", ["rides", "trips"]),
+    (roads_file, "spread", ["rides", "trips", "place"]),
+    (roads_file, "way", ["rides", "trips", "one", "other"]),
+]
+
+
+class InterfaceTest(unittest.TestCase):
+    def test_each_function_is_defined_in_its_file(self):
+        for where, told, _ in FUNCTIONS:
+            self.assertTrue(inspect.isfunction(getattr(where, told)), told)
+            self.assertEqual(getattr(where, told).__module__, where.__name__)
+
+    def test_each_function_takes_its_arguments(self):
+        for where, told, arguments in FUNCTIONS:
+            taken = inspect.signature(getattr(where, told)).parameters
+            self.assertEqual(list(taken), arguments)
+
+
+if __name__ == "__main__":
+    unittest.main()
