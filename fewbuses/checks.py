@@ -1,6 +1,6 @@
 """What places, rides and trips are, and the refusals of what is none."""
 
-from fewbuses.errors import NoPlace, NoRide, NoTrip
+from fewbuses.errors import NoNumber, NoPlace, NoRide, NoTrip
 
 LETTERS = "abcdefghijklmnopqrstuvwxyz"
 LONGEST_NAME = 12
@@ -47,6 +47,11 @@ def is_trip(thing):
     return begin < end
 
 
+def is_number(thing, trips):
+    """Tell whether something is the number of one of the trips."""
+    return is_whole(thing, 0, len(trips) - 1)
+
+
 def look_at_lists(rides, trips):
     """Refuse with NoRide or NoTrip what is none among the rides and trips."""
     # The messages tell numbers only: to write out whatever was handed in may fail.
@@ -62,3 +67,9 @@ def look_at_place(thing):
     """Refuse with NoPlace what is no place."""
     if not is_place(thing):
         raise NoPlace("a place is a name of 1 to 12 letters a to z")
+
+
+def look_at_number(thing, trips):
+    """Refuse with NoNumber what is the number of none of the trips."""
+    if not is_number(thing, trips):
+        raise NoNumber("a trip's number is its place in the list of the trips, from 0")

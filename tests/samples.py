@@ -2,7 +2,9 @@
 
 import random
 
+from fewbuses.plans import holds, plan
 from fewbuses.roads import roads, spread, way
+from fewbuses.turns import can, day
 
 RIDES = [("a", "b", 10), ("b", "c", 5), ("a", "c", 20), ("c", "d", 7)]
 TRIPS = [("d", 100, "e", 130), ("e", 0, "a", 40), ("b", 10, "b", 60)]
@@ -48,12 +50,20 @@ WRONG_TRIPS = (
     + [("a", 100000, "b", 100001), ("a", -2, "b", -1)]
 )
 
-# Each asks one function with good places behind whatever rides and trips it is given.
+# Each asks one function, with what is good behind whatever rides and trips it is given.
 ASKERS = {
     "roads": lambda rides, trips: roads(rides, trips),
     "spread": lambda rides, trips: spread(rides, trips, "a"),
     "way": lambda rides, trips: way(rides, trips, "a", "b"),
+    "can": lambda rides, trips: can(rides, trips, 0, 0),
+    "day": lambda rides, trips: day(rides, trips, []),
+    "day of one": lambda rides, trips: day(rides, trips, [0]),
+    "plan": lambda rides, trips: plan(rides, trips),
+    "holds": lambda rides, trips: holds(rides, trips, [[0]], [0]),
 }
+
+# Those that ask for a trip's number, of which there is none where there are no trips.
+NUMBERED = ["can", "day of one"]
 
 
 def refusal(ask, *told):
@@ -63,6 +73,12 @@ def refusal(ask, *told):
     except Exception as error:
         return error.__class__
     return None
+
+
+def wrong_numbers(many):
+    """What is the number of none of so many trips."""
+    near = [-1, -2, -many - 1, many, many + 1, 99999]
+    return WRONG_WHOLES + near + [[0], (0,), [], (), {0: 0}, {0}, "0", "a", b"0", 0.0, 1.0, -0.0]
 
 
 def name(number):
@@ -105,3 +121,36 @@ def reckoned(rides, trips, place):
                 least[other] = min(least.get(other, 10 ** 9), least[one] + minutes)
         if before == least:
             return least
+
+
+def followers(rides, trips):
+    """The pairs of numbers of which the second can be done behind the first, by a plain reckoning."""
+    pairs = set()
+    for one, (_, _, goal, end) in enumerate(trips):
+        least = reckoned(rides, trips, goal)
+        for other, (start, begin, _, _) in enumerate(trips):
+            if start in least and end + least[start] <= begin:
+                pairs.add((one, other))
+    return pairs
+
+
+def fewest_rows(pairs, many):
+    """The fewest rows by which so many trips can be done, found by trying all ways to deal them.
+
+    Each trip is dealt to a row of its own or to any spot of each row that is there. A row in which a
+    next one can't be done is left at once: with more trips between it can't be done either.
+    """
+    return dealt_best(pairs, many, 0, [])
+
+
+def dealt_best(pairs, many, number, rows):
+    """The fewest rows when the trips from a number on are dealt, too."""
+    if number == many:
+        return len(rows)
+    fewest = dealt_best(pairs, many, number + 1, rows + [[number]])
+    for at, row in enumerate(rows):
+        for spot in range(len(row) + 1):
+            longer = row[:spot] + [number] + row[spot:]
+            if all(pair in pairs for pair in zip(longer, longer[1:])):
+                fewest = min(fewest, dealt_best(pairs, many, number + 1, rows[:at] + [longer] + rows[at + 1:]))
+    return fewest

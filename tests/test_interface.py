@@ -3,12 +3,18 @@
 import inspect
 import unittest
 
+from fewbuses import plans as plans_file
 from fewbuses import roads as roads_file
+from fewbuses import turns as turns_file
 
 FUNCTIONS = [
     (roads_file, "roads", ["rides", "trips"]),
     (roads_file, "spread", ["rides", "trips", "place"]),
     (roads_file, "way", ["rides", "trips", "one", "other"]),
+    (turns_file, "can", ["rides", "trips", "one", "other"]),
+    (turns_file, "day", ["rides", "trips", "row"]),
+    (plans_file, "plan", ["rides", "trips"]),
+    (plans_file, "holds", ["rides", "trips", "rows", "apart"]),
 ]
 
 

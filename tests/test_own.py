@@ -3,7 +3,9 @@
 import copy
 import unittest
 
+from fewbuses.plans import holds, plan
 from fewbuses.roads import roads, spread, way
+from fewbuses.turns import can, day
 from tests.samples import ASKERS, RIDES, TRIPS, refusal
 
 
@@ -24,6 +26,19 @@ class HandedInTest(unittest.TestCase):
             self.assertEqual((rides, trips), before, told)
             self.assertIsNotNone(refusal(ask, RIDES, trips))
             self.assertEqual((rides, trips), before, told)
+
+    def test_rows_and_numbers_that_are_handed_in_stay_as_they_were(self):
+        rides, trips = list(RIDES), list(TRIPS)
+        for row in ([], [1, 0], [0, 1], [0, 0], [1, 9], [True]):
+            before = list(row)
+            refusal(day, rides, trips, row)
+            self.assertEqual(row, before)
+        wrong = [([[0, 1], [2]], [2, 0]), ([[2], [], [9]], [5]), ([None, "a"], [[]])]
+        for rows, apart in [([[2], [1, 0]], [1, 2])] + wrong:
+            before = copy.deepcopy((rows, apart))
+            refusal(holds, rides, trips, rows, apart)
+            self.assertEqual((rows, apart), before)
+        self.assertEqual((rides, trips), (RIDES, TRIPS))
 
 
 class AnswerTest(unittest.TestCase):
@@ -75,16 +90,63 @@ class AnswerTest(unittest.TestCase):
         alone.append("x")
         self.assertEqual(way([], [], "a", "a"), ["a"])
 
-    def test_what_is_changed_later_changes_no_earlier_answer(self):
+    def test_an_answer_of_day_is_new(self):
+        rides, trips, row = list(RIDES), list(TRIPS), [1, 0]
+        first = day(rides, trips, row)
+        kept = list(first)
+        first.reverse()
+        first.append(("x", 1))
+        self.assertEqual((rides, trips, row), (RIDES, TRIPS, [1, 0]))
+        self.assertEqual(day(rides, trips, row), kept)
+        nothing = day(rides, trips, [])
+        nothing.append(("x", 1))
+        self.assertEqual(day(rides, trips, []), [])
+        empty = []
+        self.assertIsNot(day(rides, trips, empty), empty)
+
+    def test_an_answer_of_plan_is_new_and_so_is_each_row_in_it(self):
         rides, trips = list(RIDES), list(TRIPS)
-        told = [roads(rides, trips), spread(rides, trips, "a"), way(rides, trips, "a", "e")]
+        first = plan(rides, trips)
+        kept = copy.deepcopy(first)
+        for row in first[0]:
+            row.reverse()
+            row.append(7)
+        first[0].append([9])
+        first[1].clear()
+        self.assertEqual((rides, trips), (RIDES, TRIPS))
+        self.assertEqual(plan(rides, trips), kept)
+        self.assertTrue(holds(rides, trips, kept[0], kept[1]))
+
+    def test_the_lists_of_a_plan_are_each_one_of_its_own(self):
+        apart_trips = [("a", 1, "b", 2)] * 5
+        for rides, trips in [(RIDES, TRIPS), ([], apart_trips), ([], TRIPS[:1]), ([], [])]:
+            rows, apart = plan(rides, trips)
+            again, apart_again = plan(rides, trips)
+            lists = [rows, apart, again, apart_again] + rows + again
+            self.assertEqual(len({id(one) for one in lists}), len(lists))
+
+    def test_an_empty_plan_is_new(self):
+        rides, trips = [], []
+        rows, apart = plan(rides, trips)
+        rows.append([0])
+        apart.append(0)
+        self.assertEqual((rides, trips), ([], []))
+        self.assertEqual(plan([], []), ([], []))
+
+    def test_what_is_changed_later_changes_no_earlier_answer(self):
+        rides, trips, row = list(RIDES), list(TRIPS), [1, 0]
+        told = self.all_answers(rides, trips, row)
         kept = copy.deepcopy(told)
         rides.clear()
         trips.append(("a", 1, "e", 2))
-        roads(rides, trips)
-        spread(rides, trips, "a")
-        way(rides, trips, "a", "e")
+        row.pop()
+        self.all_answers(rides, trips, row)
         self.assertEqual(told, kept)
+
+    def all_answers(self, rides, trips, row):
+        answers = [roads(rides, trips), spread(rides, trips, "a"), way(rides, trips, "a", "e")]
+        answers += [can(rides, trips, 1, 0), day(rides, trips, row), plan(rides, trips)]
+        return answers + [holds(rides, trips, [[2], [1, 0]], [1, 2])]
 
     def test_lists_that_the_asker_changed_are_looked_at_anew(self):
         rides, trips = list(RIDES), list(TRIPS)
@@ -94,9 +156,22 @@ class AnswerTest(unittest.TestCase):
         self.assertEqual(way(rides, trips, "a", "e"), ["a", "e"])
         self.assertEqual(roads(rides, trips)[-1], ("a", "e", 1))
 
+    def test_plans_of_lists_that_the_asker_changed_are_made_anew(self):
+        rides, trips = [("b", "a", 5)], [("a", 0, "b", 10), ("a", 14, "b", 20)]
+        self.assertFalse(can(rides, trips, 0, 1))
+        self.assertEqual(plan(rides, trips), ([[0], [1]], [0, 1]))
+        rides[0] = ("b", "a", 4)
+        self.assertTrue(can(rides, trips, 0, 1))
+        self.assertEqual(plan(rides, trips)[0], [[0, 1]])
+        self.assertFalse(holds(rides, trips, [[0], [1]], [0, 1]))
+        self.assertEqual(day(rides, trips, [0, 1]), [("a", 0), ("b", 10), ("a", 14), ("a", 14), ("b", 20)])
+        trips.pop()
+        self.assertEqual(plan(rides, trips), ([[0]], [0]))
+
     def test_two_answers_are_never_the_same_object(self):
         for told, ask in ASKERS.items():
-            self.assertIsNot(ask(RIDES, TRIPS), ask(RIDES, TRIPS), told)
+            if told not in ("can", "holds"):
+                self.assertIsNot(ask(RIDES, TRIPS), ask(RIDES, TRIPS), told)
 
 
 if __name__ == "__main__":
